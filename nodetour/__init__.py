@@ -1,0 +1,1 @@
+"""Nodetour: the fewest stalls that serve a room without a detour."""

@@ -1,0 +1,56 @@
+"""The examples of the document's interface, word for word, as they stand in tests/examples."""
+
+import os
+import unittest
+
+from nodetour import errors
+
+FOLDER = os.path.join(os.path.dirname(os.path.abspath(__file__)), "examples")
+INDENT = "    "
+PROMPT = ">>> "
+
+
+def examples_in(path):
+    """Return the list of pairs (statement, the line told below it or None)."""
+    found = []
+    with open(path, encoding="ascii") as file:
+        for row in file.read().splitlines():
+            if not row.startswith(INDENT):
+                raise AssertionError(f"no example: {row}")
+            row = row[len(INDENT):]
+            if row.startswith(PROMPT):
+                found.append((row[len(PROMPT):], None))
+            else:
+                found[-1] = (found[-1][0], row)
+    return found
+
+
+def outcome(statement, names):
+    """Return what the document would tell below a statement."""
+    try:
+        return repr(eval(statement, names))
+    except errors.BadText as e:
+        return f"raises {type(e).__name__}({e.place!r})"
+
+
+class Examples(unittest.TestCase):
+    def check(self, name):
+        names = {}
+        told = 0
+        for statement, line in examples_in(os.path.join(FOLDER, name)):
+            if line is None:
+                exec(statement, names)
+            else:
+                self.assertEqual(outcome(statement, names), line, statement)
+                told += 1
+        return told
+
+    def test_stage_1(self):
+        self.assertEqual(self.check("stage_01.txt"), 4)
+
+    def test_stage_2(self):
+        self.assertEqual(self.check("stage_02.txt"), 5)
+
+
+if __name__ == "__main__":
+    unittest.main()
