@@ -45,11 +45,11 @@ class Examples(unittest.TestCase):
                 told += 1
         return told
 
-    def test_stage_1(self):
-        self.assertEqual(self.check("stage_01.txt"), 4)
-
-    def test_stage_2(self):
-        self.assertEqual(self.check("stage_02.txt"), 5)
+    def test_all_stages(self):
+        """How many lines are told is counted beside, so that no stage is left out."""
+        told = {name: self.check(name) for name in sorted(os.listdir(FOLDER))}
+        self.assertEqual(told, {"stage_01.txt": 4, "stage_02.txt": 5, "stage_03.txt": 6, "stage_04.txt": 6,
+                                "stage_05.txt": 7, "stage_06.txt": 5})
 
 
 if __name__ == "__main__":

@@ -17,6 +17,30 @@ TOLD = {
         "lot_text(lot); read_lot(text); plan_text(room, stalls, spots); read_plan(text); cells_text(cells); "
         "read_cells(text); weights_text(pairs); read_weights(text); joins_text(joins); read_joins(text); "
         "read_way(text)"),
+    "nodetour.ways": (
+        "trail(start, steps); judge_way(room, start, end, value); is_way(room, start, end, value); "
+        "first_way(room, start, end); last_way(room, start, end); serves(room, stall, spot); back_way(steps); "
+        "ways_many(room, start, end); way_at(room, start, end, n); way_number(room, start, end, steps); "
+        "lower_of(one, other); upper_of(one, other); cells_between(room, start, end); "
+        "meeting_way(room, one, middle, other); middles(room, one, other); shortest_steps(room, one, other); "
+        "detour_of(room, one, other)"),
+    "nodetour.fields": (
+        "field(room, stall); corner_fields(room, stall); all_fields(room); common_stalls(room, lot); "
+        "are_tied(room, one, other); tied_to(room, spot); center(room); like_lots(room); hard_spots(room); "
+        "good_stalls(room); hard_in(room, lot); lit(room, stalls); dark_in(room, lot, stalls); "
+        "serve_all(room, lot, stalls); seen_by_most(room, lot); alone_served(room, stalls); "
+        "judge_field(room, stall, value); judge_common(room, lot, value); gained(room, one, other); "
+        "walk_lit(room, cells)"),
+    "nodetour.webs": (
+        "is_web(value); web_of(room, lot); contrary(web); neighbours(web, a); are_next(web, a, b); "
+        "web_part(web, some); is_bare_way(web, value); is_bare_round(web, value); long_way(web, a, b); "
+        "long_round(web); is_plain(web); common_ones(web, a, b); pieces_without(web, gone); "
+        "is_two_pair(web, a, b); first_two_pair(web); two_pair_paper(web, a, b); "
+        "judge_two_pair(web, a, b, value); like_ones(web); alone(web); all_next(web)"),
+    "nodetour.joining": (
+        "joined(web, a, b); web_behind(web, log); groups(web, log); log_of(web); is_spent(web, log); "
+        "knot_back(web, log); judge_log(web, value); log_papers(web, log); split_of(web); "
+        "judge_split(web, value); stuck_web(web); least_groups(web); greatest_knot(web)"),
 }
 
 

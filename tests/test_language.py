@@ -13,6 +13,8 @@ METHODS = set(
     "append clear copy count endswith extend find get index insert isalnum isalpha isdigit islower isspace isupper "
     "items join keys ljust lower lstrip partition pop remove replace reverse rfind rjust rpartition rsplit rstrip "
     "setdefault split splitlines startswith strip update upper values zfill bit_length add discard __init__".split())
+# A console, also that of doctest, puts what was told last into _.
+PYTHONS = set(dir(builtins)) - {"_"}
 BARRED = (ast.AsyncFunctionDef, ast.AsyncFor, ast.AsyncWith, ast.Global, ast.SetComp, ast.Div, ast.MatMult, ast.Import)
 FORBIDDEN_NAMES = set(
     "register mro elements open input law version_info compile dir eval exec exit gc globals help id locals os quit "
@@ -74,12 +76,30 @@ class Language(unittest.TestCase):
                     self.assertTrue(node.module.startswith("nodetour."), name)
                     self.assertTrue(all(one.asname is None and one.name != "*" for one in node.names), name)
 
+    def test_each_import_is_used_and_not_shadowed(self):
+        for name, tree in self.trees:
+            imported = {one.name for node in tree.body if isinstance(node, ast.ImportFrom) for one in node.names}
+            named = [node for node in ast.walk(tree) if isinstance(node, ast.Name)]
+            self.assertEqual(imported - {node.id for node in named}, set(), name)
+            bound = {node.id for node in named if isinstance(node.ctx, ast.Store)}
+            bound |= {node.arg for node in ast.walk(tree) if isinstance(node, ast.arg)}
+            self.assertEqual(imported & bound, set(), name)
+
+    def test_no_two_files_import_from_each_other(self):
+        needs = {name[:-3]: {node.module.split(".")[1] for node in tree.body if isinstance(node, ast.ImportFrom)}
+                 for name, tree in self.trees}
+        while needs:
+            free = [name for name in needs if not needs[name] & set(needs)]
+            self.assertNotEqual(free, [], "these import from each other")
+            for name in free:
+                del needs[name]
+
     def test_names(self):
         own = own_names([tree for _, tree in self.trees])
         self.assertEqual(own & (FORBIDDEN_NAMES | BUILTINS), set())
         for name, tree in self.trees:
             for node in ast.walk(tree):
-                if isinstance(node, ast.Name) and node.id in dir(builtins):
+                if isinstance(node, ast.Name) and node.id in PYTHONS:
                     self.assertIn(node.id, BUILTINS, name)
                 if isinstance(node, ast.Call) and isinstance(node.func, ast.Attribute):
                     self.assertIn(node.func.attr, METHODS | own, name)
