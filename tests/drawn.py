@@ -48,31 +48,35 @@ def drawn_room(chance, size, box, winding):
     return tuple(sorted(cells))
 
 
-def corridor_room(chance, size, longest):
-    """Return a room that is a walk with arms of up to so many steps, that never comes beside itself."""
-    cells = [(0, 0)]
-    for _ in range(30):
+def maze_room(chance, size, box):
+    """Return a room of up to so many cells, a maze: corridors of two steps each between crossings."""
+    crossings = [(0, 0)]
+    cells = {(0, 0)}
+    for _ in range(20 * size):
+        if len(cells) > size - 2:
+            break
+        # For the most part the last one, so that there are long ones.
+        x, y = crossings[-1] if chance.randrange(3) else chance.choice(crossings)
         dx, dy = chance.choice(SIDES)
-        for _ in range(chance.randrange(1, longest + 1)):
-            cell = (cells[-1][0] + dx, cells[-1][1] + dy)
-            near = [one for one in cells[:-1] if abs(one[0] - cell[0]) <= 1 and abs(one[1] - cell[1]) <= 1]
-            if cell in cells or len(near) > 1 or len(cells) == size or not is_room(tuple(sorted(cells + [cell]))):
-                break
-            cells.append(cell)
+        cell = (x + 2 * dx, y + 2 * dy)
+        if cell not in cells and 0 <= cell[0] < box and 0 <= cell[1] < box:
+            crossings.append(cell)
+            cells |= {(x + dx, y + dy), cell}
     return tuple(sorted(cells))
 
 
 @functools.cache
 def drawn_rooms(many, size):
-    """Return a tuple of rooms of up to so many cells, blocks and corridors and all between."""
+    """Return a tuple of rooms of up to so many cells, blocks and mazes and all between."""
     chance = random.Random(size * 1000 + many)
     rooms = []
     for k in range(many):
         wanted = chance.randrange(1 + size // 2, size + 1)
-        if k % 3 == 0:
-            rooms.append(corridor_room(chance, wanted, 3))
+        side = 1 + round(wanted ** 0.5)
+        if k % 2 == 0:
+            rooms.append(maze_room(chance, wanted, side + chance.randrange(1 + side)))
         else:
-            rooms.append(drawn_room(chance, wanted, chance.choice((4, 5, 6, 8, 12)), chance.choice((0, 60, 90, 100))))
+            rooms.append(drawn_room(chance, wanted, side + chance.randrange(5), chance.choice((0, 60, 90, 100))))
     return tuple(rooms)
 
 

@@ -62,6 +62,7 @@ def common(room, lot):
     return tuple(cell for cell in room if set(lot) <= served(room, cell))
 
 
+@functools.cache
 def tied(room, one, other):
     return any({one, other} <= served(room, cell) for cell in room)
 
@@ -227,3 +228,60 @@ def web_of_spots(room, lot):
     """Return the web of a lot of spots by what serves whom."""
     return (lot, tuple(pair for pair in itertools.combinations(lot, 2)
                        if served(room, pair[0]) & served(room, pair[1])))
+
+
+def serve(room, stalls, lot):
+    """Return whether each spot of a lot is served by some stall."""
+    return all(any(spot in served(room, stall) for stall in stalls) for spot in lot)
+
+
+def fewest_stalls(room, lot):
+    """Return the fewest stalls that serve a lot: all lots of cells of the room are tried."""
+    for many in range(len(room) + 1):
+        if any(serve(room, stalls, lot) for stalls in itertools.combinations(room, many)):
+            return many
+
+
+def first_tied(room, lot):
+    """Return the least pair of a lot that some stall serves both, None without one."""
+    pairs = [pair for pair in itertools.combinations(sorted(lot), 2) if tied(room, *pair)]
+    return min(pairs, default=None)
+
+
+def lots_apart(room, lot):
+    """Return the list of all lots of spots of a lot, () too, each two of them apart."""
+    found = [()]
+    for told in found:
+        for spot in lot:
+            if (not told or spot > told[-1]) and not any(tied(room, spot, other) for other in told):
+                found.append(told + (spot,))
+    return found
+
+
+def most_apart(room, lot):
+    """Return the most spots of a lot each two of which are apart."""
+    return max(map(len, lots_apart(room, lot)))
+
+
+def all_dealings(room, lot):
+    """Return the list of all dealings of a lot: each spot is put to each lot of those ahead, and to a new one."""
+    found = [[]]
+    for spot in lot:
+        found = [dealing[:k] + [dealing[k] + (spot,)] + dealing[k + 1:] if k < len(dealing) else dealing + [(spot,)]
+                 for dealing in found for k in range(len(dealing) + 1)
+                 if k == len(dealing) or not any(tied(room, spot, other) for other in dealing[k])]
+    return [tuple(sorted(dealing)) for dealing in found]
+
+
+def fewest_of_setting(room, weights):
+    """Return the fewest stalls, cells in a row and one more than once, that serve each spot as often as it weighs."""
+    for many in range(sum(w for spot, w in weights) + 1):
+        for stalls in itertools.combinations_with_replacement(room, many):
+            if all(sum(spot in served(room, stall) for stall in stalls) >= w for spot, w in weights):
+                return many
+
+
+def greatest_burden(room, weights, spots):
+    """Return the greatest sum of weights of a lot apart of these spots."""
+    told = dict(weights)
+    return max(sum(told.get(spot, 0) for spot in lot) for lot in lots_apart(room, spots))

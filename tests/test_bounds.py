@@ -4,9 +4,9 @@ import random
 import time
 import unittest
 
-from nodetour import fields, joining, ways, webs
+from nodetour import fields, helly, joining, stalls, ways, webs, weights
 from nodetour.rooms import is_room
-from tests.drawn import drawn_room, drawn_web, some_of
+from tests.drawn import drawn_room, drawn_web, maze_room, some_of
 
 # Far more than any of these calls takes, and far less than one that tries all.
 SOON = 20
@@ -18,6 +18,14 @@ def comb():
     """Return a room of four hundred cells within sixty by sixty: a row with teeth."""
     teeth = [(x, y) for x in range(0, 60, 3) for y in range(1, 18)]
     return tuple(sorted(list(LINE) + teeth))
+
+
+def rooms_of(size, box):
+    """Return rooms of so many cells: a block, a line and drawn ones."""
+    chance = random.Random(size)
+    block = tuple((x, y) for x in range(size // 6) for y in range(6))
+    line = tuple((0, y) for y in range(size))
+    return [block, line, maze_room(chance, size, box), drawn_room(chance, size, box, 100), drawn_room(chance, size, box, 60)]
 
 
 def rooms_of_four_hundred():
@@ -114,6 +122,53 @@ class Bounds(unittest.TestCase):
         for share in (0, 20, 40, 50, 60, 80, 100):
             web = drawn_web(chance, 12, share)
             self.assertGreaterEqual(joining.least_groups(web), len(joining.greatest_knot(web)))
+
+    def test_answers_in_rooms_of_sixty_cells(self):
+        for room in rooms_of(60, 12):
+            answer = stalls.answer(room)
+            self.assertEqual(stalls.fewest(room, room), len(answer[0]))
+            self.assertIsNone(stalls.judge_answer(room, room, answer))
+
+    def test_judges_of_answers_in_rooms_of_two_hundred_cells(self):
+        for room in rooms_of(200, 30):
+            told = room[::5]
+            self.assertIsNotNone(stalls.judge_answer(room, room, (room, room)))
+            self.assertIsNone(stalls.judge_stalls(room, room, room))
+            self.assertEqual(stalls.judge_spots(room, room, room)[0], "tied")
+            lit = fields.lit(room, told)
+            self.assertEqual(len(stalls.dealt(room, told, lit)), len(told))
+            plan = stalls.plan_for(room, told, lit)
+            self.assertIsNone(stalls.judge_plan(room, told, lit, plan))
+            self.assertTrue(stalls.served_by(room, told, told[0]))
+
+    def test_meetings_in_rooms_of_two_hundred_cells(self):
+        for room in rooms_of(200, 30):
+            self.assertIsNone(helly.judge_meeting(room, room, helly.meeting(room, room)))
+            self.assertIs(helly.is_lot_of_one(room, room), helly.meeting(room, room)[0] == "stall")
+            self.assertIn(helly.greatest_one(room, room)[1], helly.greatest_lots(room, room))
+            self.assertEqual(helly.load(room, room), len(helly.greatest_one(room, room)[1]))
+            singles = tuple((cell,) for cell in room)
+            self.assertEqual(helly.shift_of(singles, room[-1]), len(room) - 1)
+            self.assertIs(helly.is_even_for(room, singles, len(room)), True)
+            self.assertIs(helly.moved_spot(room, singles, room[0], 1) is None, fields.are_tied(room, room[0], room[1]))
+
+    def test_shifts_in_rooms_of_sixty_cells(self):
+        for room in rooms_of(60, 12):
+            dealing = helly.shifts(room, room)
+            self.assertIsNone(helly.judge_shifts(room, room, dealing))
+            for n in (len(dealing), min(60, len(dealing) + 3), 60):
+                self.assertTrue(helly.is_even_for(room, helly.balanced(room, room, n), n))
+            self.assertEqual(helly.bounds(room, room)[2], len(room))
+
+    def test_weights_of_sixty_in_all(self):
+        for room in rooms_of(30, 9):
+            for spots, w in ((room, 2), (room[:1], 60), (room[::2], 4), (room[::6], 12)):
+                told = weights.even_weights(spots, w)
+                answer = weights.weighted_answer(room, told)
+                self.assertIsNone(weights.judge_weighted(room, told, answer))
+                self.assertEqual(weights.heaviest(room, told)[0], weights.fewest_for(room, told))
+                full = weights.full_spots(room, told)
+                self.assertEqual(full, tuple(cell for cell in room if weights.spare_of(room, told, cell) == 0))
 
 
 if __name__ == "__main__":

@@ -41,6 +41,22 @@ TOLD = {
         "joined(web, a, b); web_behind(web, log); groups(web, log); log_of(web); is_spent(web, log); "
         "knot_back(web, log); judge_log(web, value); log_papers(web, log); split_of(web); "
         "judge_split(web, value); stuck_web(web); least_groups(web); greatest_knot(web)"),
+    "nodetour.stalls": (
+        "answer(room); answer_for(room, lot); fewest(room, lot); judge_answer(room, lot, value); "
+        "judge_stalls(room, lot, value); judge_spots(room, lot, value); served_by(room, stalls, spot); "
+        "dealt(room, stalls, lot); plan_for(room, stalls, lot); judge_plan(room, stalls, lot, value)"),
+    "nodetour.helly": (
+        "meeting(room, lot); judge_meeting(room, lot, value); is_lot_of_one(room, lot); "
+        "greatest_lots(room, lot); greatest_one(room, lot); load(room, lot); shifts(room, lot); "
+        "judge_shifts(room, lot, value); shift_of(dealing, spot); moved_spot(room, dealing, spot, k); "
+        "balanced(room, lot, n); is_even_for(room, dealing, n); bounds(room, lot)"),
+    "nodetour.weights": (
+        "judge_weights(room, value); is_weights(room, value); weight_of(weights, cell); whole_weight(weights); "
+        "even_weights(lot, w); weights_sum(one, other); times_weights(weights, k); heavier(weights, spot, k); "
+        "size_of(setting); times_served(room, setting, spot); judge_setting(room, weights, value); "
+        "judge_apart(room, weights, value); burden(weights, lot); heaviest(room, weights); "
+        "fewest_for(room, weights); weighted_answer(room, weights); judge_weighted(room, weights, value); "
+        "heaviest_with(room, weights, spot); spare_of(room, weights, spot); full_spots(room, weights)"),
 }
 
 
