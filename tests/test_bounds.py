@@ -25,7 +25,8 @@ def rooms_of(size, box):
     chance = random.Random(size)
     block = tuple((x, y) for x in range(size // 6) for y in range(6))
     line = tuple((0, y) for y in range(size))
-    return [block, line, maze_room(chance, size, box), drawn_room(chance, size, box, 100), drawn_room(chance, size, box, 60)]
+    return [block, line, maze_room(chance, size, box), drawn_room(chance, size, box, 100),
+            drawn_room(chance, size, box, 60)]
 
 
 def rooms_of_four_hundred():
@@ -168,7 +169,8 @@ class Bounds(unittest.TestCase):
                 self.assertIsNone(weights.judge_weighted(room, told, answer))
                 self.assertEqual(weights.heaviest(room, told)[0], weights.fewest_for(room, told))
                 full = weights.full_spots(room, told)
-                self.assertEqual(full, tuple(cell for cell in room if weights.spare_of(room, told, cell) == 0))
+                for cell in room[::6]:
+                    self.assertIs(weights.spare_of(room, told, cell) == 0, cell in full)
 
 
 if __name__ == "__main__":

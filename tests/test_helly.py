@@ -70,11 +70,13 @@ class Meetings(unittest.TestCase):
                 (("apart", (0, 0), (0, 2)), ("foreign", (0, 2))), (("apart", (0, 2), (2, 4)), ("foreign", (0, 2))),
                 (("apart", (0, 2), (0, 3)), ("foreign", (0, 2))), (("apart", (2, 4), (0, 0)), ("form",)),
                 (("apart", (0, 0), (0, 0)), ("form",)), (("apart", (0, 0)), ("form",)), (("stall",), ("form",)),
-                (("stall", (9, 9)), ("form",)), (("apart", (0, 0), (9, 9)), ("form",)), (("stall", (0, 0), (1, 0)), ("form",)),
+                (("stall", (9, 9)), ("form",)), (("apart", (0, 0), (9, 9)), ("form",)),
+                (("stall", (0, 0), (1, 0)), ("form",)),
                 (("Stall", (0, 0)), ("form",)), (["stall", (0, 0)], ("form",)), (("stall", [0, 0]), ("form",)),
                 (("stall", (False, 0)), ("form",)), (("apart", ((0, 0), (2, 4))), ("form",)), ("stall", ("form",)),
                 ((("stall",), (0, 0)), ("form",)), (((0, 0), "stall"), ("form",)), ((), ("form",)), (None, ("form",)),
-                (("apart", (0, 0), (1, 4), (2, 4)), ("form",)), (("stall", None), ("form",)), ((["stall"], (0, 0)), ("form",))]
+                (("apart", (0, 0), (1, 4), (2, 4)), ("form",)), (("stall", None), ("form",)),
+                ((["stall"], (0, 0)), ("form",))]
         for value, fault in told:
             self.assertEqual(helly.judge_meeting(SNAKE, LOT, value), fault, value)
         self.assertIsNone(helly.judge_meeting(SNAKE, LOT[:2], ("stall", (2, 1))))
@@ -183,13 +185,16 @@ class Shifts(unittest.TestCase):
     def test_the_sequence_of_the_faults(self):
         told = [(DEALING, None), (THREE, ("many", 3)), (tuple((spot,) for spot in LOT), ("many", 4)),
                 (DEALING[:1], ("spot", (1, 0))), (DEALING[1:], ("spot", (0, 0))), ((), ("spot", (0, 0))),
-                ((((0, 0), (1, 4)), ((1, 0), (1, 4))), ("spot", (1, 4))), ((((0, 0), (2, 1)), ((1, 0),)), ("foreign", (2, 1))),
+                ((((0, 0), (1, 4)), ((1, 0), (1, 4))), ("spot", (1, 4))),
+                ((((0, 0), (2, 1)), ((1, 0),)), ("foreign", (2, 1))),
                 ((((0, 0), (2, 1)), ((0, 2), (1, 0))), ("foreign", (0, 2))),
                 ((((0, 0), (1, 0)), ((1, 4), (2, 4))), ("tied", 0, (0, 0), (1, 0))),
                 ((((0, 0),), ((1, 0),), ((1, 4), (2, 4))), ("tied", 2, (1, 4), (2, 4))),
                 ((((0, 0), (1, 4), (2, 4)), ((1, 0),)), ("tied", 0, (1, 4), (2, 4))), (DEALING[::-1], ("form",)),
-                (DEALING[:1] * 2, ("form",)), (((),) + DEALING, ("form",)), ((((1, 4), (0, 0)), ((1, 0), (2, 4))), ("form",)),
-                ((((0, 0), (9, 9)),), ("form",)), (list(DEALING), ("form",)), ((list(DEALING[0]), DEALING[1]), ("form",)),
+                (DEALING[:1] * 2, ("form",)), (((),) + DEALING, ("form",)),
+                ((((1, 4), (0, 0)), ((1, 0), (2, 4))), ("form",)),
+                ((((0, 0), (9, 9)),), ("form",)), (list(DEALING), ("form",)),
+                ((list(DEALING[0]), DEALING[1]), ("form",)),
                 (DEALING[0], ("form",)), (None, ("form",))]
         for value, fault in told:
             self.assertEqual(helly.judge_shifts(SNAKE, LOT, value), fault, value)

@@ -6,7 +6,7 @@ import random
 import unittest
 
 from nodetour import joining, webs
-from nodetour.rooms import is_cell, is_lot
+from nodetour.rooms import is_lot
 from tests import reckon
 from tests.drawn import all_webs, altered, drawn_rooms, drawn_web, drawn_webs, of_other_kinds, some_of
 from tests.support import some_values
@@ -234,7 +234,8 @@ class JudgedLogs(unittest.TestCase):
                 (((A, C), (B, D)), None), (((A, C), (A, C)), ("pair", 1)), (((A, C), (C, D)), ("pair", 1)),
                 (((A, B),), ("pair", 0)), (((A, E),), ("pair", 0)), (((E, (5, 5)),), ("pair", 0)),
                 (((A, D), (A, B)), ("long", 0)), (((A, B), (A, D)), ("pair", 0)), (((A, C), (A, B)), ("pair", 1)),
-                (((C, A),), ("form",)), (((A, A),), ("form",)), (((A, B), (D, C)), ("form",)), (((A, B, C),), ("form",)),
+                (((C, A),), ("form",)), (((A, A),), ("form",)), (((A, B), (D, C)), ("form",)),
+                (((A, B, C),), ("form",)),
                 ((A, C), ("form",)), ([(A, C), (B, D)], ("form",)), (([A, C],), ("form",)), (((A, None),), ("form",))]
         for value, fault in told:
             answer = joining.judge_log(LINE, value)
@@ -309,8 +310,8 @@ class Splits(unittest.TestCase):
                 ((((), (A, C), (B, D)), (A, B)), ("form",)), ((right, (B, A)), ("form",)), ((right, (A, E)), ("form",)),
                 ((((A, C), (B, D), (E,)), (A, B)), ("form",)), ((((A, C), (D, B)), (A, B)), ("form",)),
                 ((right,), ("form",)), ((right, (A, B), ()), ("form",)), ([right, (A, B)], ("form",)),
-                ((list(right), (A, B)), ("form",)), ((right, [A, B]), ("form",)), ((((A,), (B,), (C,), (D,)), (A, B)),
-                                                                                  ("many", 4, 2))]
+                ((list(right), (A, B)), ("form",)), ((right, [A, B]), ("form",)),
+                ((((A,), (B,), (C,), (D,)), (A, B)), ("many", 4, 2))]
         for value, fault in told:
             self.assertEqual(joining.judge_split(LINE, value), fault, value)
             self.assertEqual(told_split_fault(LINE, value), fault, value)
@@ -319,7 +320,8 @@ class Splits(unittest.TestCase):
         self.assertEqual(joining.judge_split(full, (((A, D), (B, C)), ())), ("group", A, D))
         crossed = ((A, B, C, D, E), ((B, C), (D, E)))
         self.assertEqual(joining.judge_split(crossed, (((A, D, E), (B, C)), ())), ("group", B, C))
-        self.assertEqual([joining.judge_split(NONE, ((), ())), joining.judge_split(NONE, ((), (A,)))], [None, ("form",)])
+        self.assertEqual([joining.judge_split(NONE, ((), ())), joining.judge_split(NONE, ((), (A,)))],
+                         [None, ("form",)])
         self.assertEqual(joining.judge_split(FIVE, (((A, C), (B, D), (E,)), (A, B))), ("many", 3, 2))
 
     def test_changed_splits_and_any_value(self):

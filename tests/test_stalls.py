@@ -43,7 +43,8 @@ class Answers(unittest.TestCase):
                 self.assertIsNone(told_answer_fault(room, lot, answer))
                 self.assertIsNone(stalls.judge_answer(room, lot, answer))
                 many = reckon.fewest_stalls(room, lot)
-                self.assertEqual([len(answer[0]), len(answer[1]), stalls.fewest(room, lot), reckon.most_apart(room, lot)],
+                self.assertEqual([len(answer[0]), len(answer[1]), stalls.fewest(room, lot),
+                                  reckon.most_apart(room, lot)],
                                  [many] * 4)
                 numbers.add(many)
             self.assertEqual(stalls.answer(room), stalls.answer_for(room, room))
@@ -119,7 +120,8 @@ class Judges(unittest.TestCase):
             self.assertEqual(stalls.judge_answer(SNAKE, SNAKE, value), fault, value)
         lot = ((0, 0), (1, 0), (2, 4))
         told = [((STALLS, APART), None), ((STALLS, ((0, 0), (1, 4))), ("foreign", (1, 4))),
-                ((STALLS, ((0, 2), (1, 4))), ("foreign", (0, 2))), ((STALLS, ((0, 0), (0, 2), (1, 0))), ("foreign", (0, 2))),
+                ((STALLS, ((0, 2), (1, 4))), ("foreign", (0, 2))),
+                ((STALLS, ((0, 0), (0, 2), (1, 0))), ("foreign", (0, 2))),
                 (((STALLS[1],), ((1, 4),)), ("dark", (2, 4))), ((STALLS, ((1, 0),)), ("many", 2, 1))]
         for value, fault in told:
             self.assertEqual(stalls.judge_answer(SNAKE, lot, value), fault, value)
@@ -237,11 +239,14 @@ class WhoServesWhom(unittest.TestCase):
         self.assertEqual(stalls.plan_for(SNAKE, STALLS[::-1], ((1, 2),)), ((0, "uul"),))
 
     def test_the_sequence_of_the_faults_of_plans(self):
-        told = [(((1, "ll"), (0, "uurr")), None), (((1, "ll"), (0, "rr")), ("way", 1)), (((0, "ll"), (0, "x")), ("way", 0)),
+        told = [(((1, "ll"), (0, "uurr")), None), (((1, "ll"), (0, "rr")), ("way", 1)),
+                (((0, "ll"), (0, "x")), ("way", 0)),
                 (((1, ""), (0, "uurr")), ("way", 0)), (((1, "llrl"), (0, "uurr")), ("way", 0)),
-                (((1, "ll"), (2, "uurr")), ("form",)), (((1, "ll"), (-1, "uurr")), ("form",)), (((1, "ll"),), ("form",)),
+                (((1, "ll"), (2, "uurr")), ("form",)), (((1, "ll"), (-1, "uurr")), ("form",)),
+                (((1, "ll"),), ("form",)),
                 (((1, "ll"), (0, "uurr"), (0, "")), ("form",)), (((0, "x"), (0, None)), ("form",)),
-                (((1, "ll"), (0, "uurr", 1)), ("form",)), (((1, "ll"), (0,)), ("form",)), (((1, "ll"), "0u"), ("form",)),
+                (((1, "ll"), (0, "uurr", 1)), ("form",)), (((1, "ll"), (0,)), ("form",)),
+                (((1, "ll"), "0u"), ("form",)),
                 (((True, "ll"), (0, "uurr")), ("form",)), (((1, "ll"), (False, "uurr")), ("form",)),
                 ([(1, "ll"), (0, "uurr")], ("form",)), (([1, "ll"], (0, "uurr")), ("form",)), ((), ("form",))]
         for value, fault in told:

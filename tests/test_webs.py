@@ -148,7 +148,8 @@ class Bare(unittest.TestCase):
         for web in all_webs(5)[::40] + drawn_webs(40, 6):
             told = reckon.bare_ways(web, 4)
             for a, b in pairs(web):
-                self.assertEqual(reckon.ways_by_lots(web, a, b, 4), [way for way in told if (way[0], way[-1]) == (a, b)])
+                self.assertEqual(reckon.ways_by_lots(web, a, b, 4),
+                                 [way for way in told if (way[0], way[-1]) == (a, b)])
             rounds = reckon.bare_rounds(web, 3)
             self.assertEqual(webs.long_round(web), min([told for told in rounds if len(told) >= 5], default=None))
             self.assertTrue(set(reckon.rounds_by_lots(web, 3)) <= set(rounds))
@@ -161,7 +162,8 @@ class Bare(unittest.TestCase):
             self.assertEqual(webs.long_round(web), told[0] if told else None)
             found += len(told) > 1
         self.assertGreater(found, 10)
-        self.assertEqual([webs.long_round(NONE), webs.long_round(TRIANGLE), webs.long_round(FOUR), webs.long_round(FIVE),
+        self.assertEqual([webs.long_round(NONE), webs.long_round(TRIANGLE), webs.long_round(FOUR),
+                          webs.long_round(FIVE),
                           webs.long_round(SIX)], [None, None, None, (A, B, C, D, E), (A, B, C, D, E, F)])
 
     def test_the_first_of_several_long_rounds(self):
@@ -183,7 +185,8 @@ class Plain(unittest.TestCase):
             both[told] += 1
         self.assertGreater(min(both.values()), 15)
         six = webs.contrary(SIX)
-        self.assertEqual([webs.is_plain(web) for web in (NONE, FOUR, FIVE, SIX, six)], [True, True, False, False, False])
+        self.assertEqual([webs.is_plain(web) for web in (NONE, FOUR, FIVE, SIX, six)],
+                         [True, True, False, False, False])
 
     def test_webs_of_rooms_and_their_contraries_and_parts_are_plain(self):
         chance = random.Random(54)

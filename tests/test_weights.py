@@ -29,7 +29,8 @@ def drawn_weights(chance, room, most, spots):
 def weights_of(chance, room):
     """Return some weights, () and such that are all 0, too."""
     told = [(), tuple((cell, 0) for cell in room[:4]), tuple((cell, 1) for cell in room)]
-    return told + [drawn_weights(chance, room, most, spots) for most, spots in ((3, 2), (6, 4), (9, 5), (20, 8), (60, 30))]
+    sizes = ((3, 2), (6, 4), (9, 5), (20, 8), (60, 30))
+    return told + [drawn_weights(chance, room, most, spots) for most, spots in sizes]
 
 
 def is_integer(value):
@@ -57,10 +58,14 @@ class Weights(unittest.TestCase):
         told = [((), None), (W, None), ((((0, 0), 0),), None), ((((0, 0), BIG),), None), ((((0, 1), 1),), ("cell", 0)),
                 ((((0, 0), 1), ((0, 1), 1), ((9, 9), 1)), ("cell", 1)), ((((1, 0), 1), ((0, 0), 1)), ("ascend", 1)),
                 ((((0, 0), 1), ((0, 0), 1)), ("ascend", 1)), (W + W, ("ascend", 3)),
-                ((((1, 0), 1), ((0, 0), 1), ((9, 9), 1)), ("cell", 2)), ((((1, 0), 1), ((0, 0), 1), ((9, 9), -1)), ("form",)),
-                ((((0, 1), 1), ((0, 0), True)), ("form",)), ((((True, 0), 1),), ("form",)), ((((0, 0), 1, 1),), ("form",)),
-                ((((0, 0),),), ("form",)), (([(0, 0), 1],), ("form",)), ((([0, 0], 1),), ("form",)), (list(W), ("form",)),
-                (dict(W), ("form",)), (((0, 0), 1), ("form",)), ((((0, 0), "1"),), ("form",)), ((((0, 0), None),), ("form",))]
+                ((((1, 0), 1), ((0, 0), 1), ((9, 9), 1)), ("cell", 2)),
+                ((((1, 0), 1), ((0, 0), 1), ((9, 9), -1)), ("form",)),
+                ((((0, 1), 1), ((0, 0), True)), ("form",)), ((((True, 0), 1),), ("form",)),
+                ((((0, 0), 1, 1),), ("form",)),
+                ((((0, 0),),), ("form",)), (([(0, 0), 1],), ("form",)), ((([0, 0], 1),), ("form",)),
+                (list(W), ("form",)),
+                (dict(W), ("form",)), (((0, 0), 1), ("form",)), ((((0, 0), "1"),), ("form",)),
+                ((((0, 0), None),), ("form",))]
         for value, fault in told:
             self.assertEqual(weights.judge_weights(SNAKE, value), fault, value)
             self.assertIs(weights.is_weights(SNAKE, value), fault is None)
@@ -86,12 +91,14 @@ class Weights(unittest.TestCase):
     def test_single_ones(self):
         self.assertEqual([weights.weight_of(W, cell) for cell in ((0, 0), (1, 2), (2, 4), (9, 9))], [2, 1, 3, 0])
         self.assertEqual([weights.weight_of((), (0, 0)), weights.weight_of((((0, 0), 0),), (0, 0))], [0, 0])
-        self.assertEqual([weights.whole_weight(()), weights.whole_weight(W), weights.whole_weight((((0, 0), 0),))], [0, 6, 0])
-        self.assertEqual([weights.burden(W, ()), weights.burden((), ((0, 0),)), weights.burden(W, ((0, 0), (0, 2), (2, 4)))],
-                         [0, 0, 5])
+        self.assertEqual([weights.whole_weight(()), weights.whole_weight(W), weights.whole_weight((((0, 0), 0),))],
+                         [0, 6, 0])
+        self.assertEqual([weights.burden(W, ()), weights.burden((), ((0, 0),)),
+                          weights.burden(W, ((0, 0), (0, 2), (2, 4)))], [0, 0, 5])
 
     def test_pairs_with_0_stay_and_are_put_in(self):
-        self.assertEqual([weights.even_weights((), 3), weights.even_weights(((0, 0), (1, 0)), 0), weights.even_weights(ONE, 4)],
+        self.assertEqual([weights.even_weights((), 3), weights.even_weights(((0, 0), (1, 0)), 0),
+                          weights.even_weights(ONE, 4)],
                          [(), (((0, 0), 0), ((1, 0), 0)), ((ONE[0], 4),)])
         self.assertEqual([weights.times_weights(W, 0), weights.times_weights(W, 1), weights.times_weights((), 5),
                           weights.times_weights((((0, 0), 0), ((1, 0), 2)), 3)],
@@ -166,7 +173,8 @@ def told_weighted_fault(room, told, value):
 class Settings(unittest.TestCase):
     def test_sizes_and_times(self):
         chance = random.Random(113)
-        self.assertEqual([weights.size_of(()), weights.size_of(SET), weights.times_served(SNAKE, (), (0, 0))], [0, 5, 0])
+        self.assertEqual([weights.size_of(()), weights.size_of(SET), weights.times_served(SNAKE, (), (0, 0))],
+                         [0, 5, 0])
         for room in ROOMS:
             setting = tuple((cell, chance.randrange(1, 5)) for cell in some_of(chance, room, 6))
             self.assertEqual(weights.size_of(setting), sum(n for cell, n in setting))
@@ -180,11 +188,13 @@ class Settings(unittest.TestCase):
                 ((((0, 2), BIG), ((2, 0), BIG)), None), ((((0, 2), 0), ((2, 0), 2)), ("form",)),
                 ((((0, 2), -1), ((2, 0), 2)), ("form",)), (SET[::-1], ("form",)), (SET + SET[1:], ("form",)),
                 (SET + (((9, 9), 1),), ("form",)), ((((0, 1), 3),), ("form",)), (list(SET), ("form",)),
-                ((list(SET[0]), SET[1]), ("form",)), ((((0, 2), True), ((2, 0), 2)), ("form",)), ((((0, 2),),), ("form",)),
+                ((list(SET[0]), SET[1]), ("form",)), ((((0, 2), True), ((2, 0), 2)), ("form",)),
+                ((((0, 2),),), ("form",)),
                 ((((0, 2), 3, 1),), ("form",)), (SET[0], ("form",)), (None, ("form",)), (dict(SET), ("form",))]
         for value, fault in told:
             self.assertEqual(weights.judge_setting(SNAKE, W, value), fault, value)
-        self.assertEqual([weights.judge_setting(SNAKE, (), ()), weights.judge_setting(SNAKE, (((0, 0), 0),), ())], [None] * 2)
+        self.assertEqual([weights.judge_setting(SNAKE, (), ()), weights.judge_setting(SNAKE, (((0, 0), 0),), ())],
+                         [None] * 2)
 
     def test_short_by_one(self):
         chance = random.Random(114)
@@ -220,13 +230,15 @@ class Apart(unittest.TestCase):
         told = [((), None), (((0, 0),), None), (((0, 0), (2, 4)), None), (((0, 0), (1, 2)), ("tied", (0, 0), (1, 2))),
                 (((1, 2), (2, 4)), ("tied", (1, 2), (2, 4))), (((0, 0), (1, 2), (2, 4)), ("tied", (0, 0), (1, 2))),
                 (((2, 2),), ("form",)), (((0, 0), (1, 2), (2, 2)), ("form",)), (((2, 4), (0, 0)), ("form",)),
-                (((0, 0), (0, 0)), ("form",)), ([(0, 0)], ("form",)), (([0, 0],), ("form",)), (((False, 0),), ("form",)),
+                (((0, 0), (0, 0)), ("form",)), ([(0, 0)], ("form",)), (([0, 0],), ("form",)),
+                (((False, 0),), ("form",)),
                 (W, ("form",)), (None, ("form",)), ("", ("form",))]
         for value, fault in told:
             self.assertEqual(weights.judge_apart(SNAKE, W, value), fault, value)
         # Spots that stand there with 0 are spots of the weights.
         self.assertIsNone(weights.judge_apart(SNAKE, (((0, 0), 0), ((2, 4), 0)), ((0, 0), (2, 4))))
-        self.assertEqual([weights.judge_apart(SNAKE, (), ()), weights.judge_apart(SNAKE, (), ((0, 0),))], [None, ("form",)])
+        self.assertEqual([weights.judge_apart(SNAKE, (), ()), weights.judge_apart(SNAKE, (), ((0, 0),))],
+                         [None, ("form",)])
 
     def test_drawn_lots_and_any_value(self):
         chance = random.Random(116)
@@ -292,8 +304,10 @@ class JustAsMany(unittest.TestCase):
                 ((SET + (((2, 1), 1),), lot), ("sum", 1)), ((SET[:1], lot), ("setting", ("short", (0, 0), 0))),
                 ((SET[:1], None), ("setting", ("short", (0, 0), 0))), ((list(SET), lot), ("setting", ("form",))),
                 ((SET, list(lot)), ("lot", ("form",))), ((SET, ((2, 2),)), ("lot", ("form",))),
-                ((SET, ((0, 0), (1, 2))), ("lot", ("tied", (0, 0), (1, 2)))), ([SET, lot], ("form",)), ((SET,), ("form",)),
-                ((SET, lot, ()), ("form",)), (None, ("form",)), ((), ("form",)), (((), ()), ("setting", ("short", (0, 0), 0)))]
+                ((SET, ((0, 0), (1, 2))), ("lot", ("tied", (0, 0), (1, 2)))), ([SET, lot], ("form",)),
+                ((SET,), ("form",)),
+                ((SET, lot, ()), ("form",)), (None, ("form",)), ((), ("form",)),
+                (((), ()), ("setting", ("short", (0, 0), 0)))]
         for value, fault in told:
             self.assertEqual(weights.judge_weighted(SNAKE, W, value), fault, value)
 
@@ -315,7 +329,7 @@ class JustAsMany(unittest.TestCase):
 class Spare(unittest.TestCase):
     def test_by_trying(self):
         chance = random.Random(120)
-        for room in ROOMS:
+        for room in TINY[::3] + ROOMS[len(TINY)::2]:
             for told in weights_of(chance, room):
                 spots = tuple(sorted({cell for cell, w in told}))
                 many = weights.fewest_for(room, told)
@@ -333,7 +347,8 @@ class Spare(unittest.TestCase):
     def test_edges(self):
         for told in ((), tuple((cell, 0) for cell in SNAKE)):
             self.assertEqual(weights.full_spots(SNAKE, told), SNAKE)
-            self.assertEqual([weights.heaviest_with(SNAKE, told, (1, 2)), weights.spare_of(SNAKE, told, (1, 2))], [0, 0])
+            self.assertEqual([weights.heaviest_with(SNAKE, told, (1, 2)), weights.spare_of(SNAKE, told, (1, 2))],
+                             [0, 0])
         # A spot that does not stand in the weights can be full.
         self.assertEqual(weights.full_spots(SNAKE, (((0, 0), 1),)), ((0, 0), (1, 4), (2, 4)))
 
