@@ -57,6 +57,23 @@ TOLD = {
         "judge_apart(room, weights, value); burden(weights, lot); heaviest(room, weights); "
         "fewest_for(room, weights); weighted_answer(room, weights); judge_weighted(room, weights, value); "
         "heaviest_with(room, weights, spot); spare_of(room, weights, spot); full_spots(room, weights)"),
+    "nodetour.choices": (
+        "sole_spots(room, lot, stalls, k); places_for(room, lot, stalls, k); spare_stalls(room, lot, stalls); "
+        "put_at(room, lot, stalls, k, cell); needed_spots(room, lot); possible_spots(room, lot); "
+        "good_places(room, lot); answer_with(room, lot, cell); answers(room, lot); fewest_but(room, lot, shut); "
+        "stalls_but(room, lot, shut); sure_places(room, lot); served_of(room, lot, stalls); "
+        "most_served(room, lot, k); by_greed(room, lot)"),
+    "nodetour.shapes": (
+        "bar(m, n); stairs(k); comb(k, h); corridor_cells(steps); is_corridor(value); corridor(steps); "
+        "corridor_stretch(steps, i); corridor_stalls(steps); corridor_spots(steps); spiral(k); zigzag(k); "
+        "told_number(word, numbers); shape_room(word, numbers)"),
+    "nodetour.cutting": (
+        "cut_at(room, way, c); cut_bounds(room, way, c); put_beside(one, other, dy); put_above(one, other, dx); "
+        "gate(one, other, dy)"),
+    "nodetour.kept": (
+        "new_board(room); is_deed(board, value); done(board, deed); boards(board); undone(board); redone(board); "
+        "dark_now(board); all_served(board); further(board); how_many_further(board); idle(board); "
+        "openable(board); wallable(board); change_by(board, deed)"),
 }
 
 
