@@ -7,7 +7,8 @@ the first place at which no text of the form could go on as this one does.
 from nodetour.errors import BadText
 
 DIGITS = "0123456789"
-MOST_DIGITS = 9
+# In a form "z" stands for any integer, "n" for one from 0 on, "Z" for any one that may be longer.
+MOST_DIGITS = {"z": 9, "n": 9, "Z": 60}
 
 
 def need_text(value):
@@ -31,21 +32,18 @@ def past_end(text, at):
         raise BadText(at)
 
 
-def number_at(text, at, may_be_less):
-    """Return the integer that must stand here, and the place behind it.
-
-    may_be_less tells whether it may be below 0.
-    """
+def number_at(text, at, kind):
+    """Return the integer of a kind, one of those of MOST_DIGITS, that must stand here, and the place behind it."""
     begin = at
     firsts = DIGITS
-    if may_be_less and text[at:at + 1] == "-":
+    if kind != "n" and text[at:at + 1] == "-":
         at += 1
         firsts = DIGITS[1:]
     if at == len(text) or text[at] not in firsts:
         raise BadText(at)
     if text[at] == "0":
         return (0, at + 1)
-    end = at + signs_among(text[at:at + MOST_DIGITS], DIGITS)
+    end = at + signs_among(text[at:at + MOST_DIGITS[kind]], DIGITS)
     return (int(text[begin:end]), end)
 
 
@@ -60,12 +58,12 @@ def signs_among(text, signs):
 def numbers_at(text, at, form):
     """Return the list of the integers that must stand here in a form, and the place behind.
 
-    In the form "z" stands for any integer, "n" for one from 0 on, each other sign for itself.
+    In the form each sign that is not in MOST_DIGITS stands for itself.
     """
     numbers = []
     for sign in form:
-        if sign in ("z", "n"):
-            number, at = number_at(text, at, sign == "z")
+        if sign in MOST_DIGITS:
+            number, at = number_at(text, at, sign)
             numbers.append(number)
         else:
             at = past(text, at, sign)

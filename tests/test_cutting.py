@@ -85,8 +85,9 @@ class PutTogether(unittest.TestCase):
                 for room in told:
                     right, wrong = right + (room is not None), wrong + (room is None)
                     if room is not None and len(room) < 40:
-                        numbers = [number_of(one), number_of(other)]
-                        self.assertTrue(max(numbers) <= number_of(room) <= sum(numbers))
+                        told_number = tries.number_of if len(room) < 14 else number_of
+                        numbers = [told_number(one), told_number(other)]
+                        self.assertTrue(max(numbers) <= told_number(room) <= sum(numbers))
                 touching = tuple((x, y) for x, y in one if {(x + 1, y), (x - 1, y), (x, y + 1), (x, y - 1)}
                                  & set(beside))
                 self.assertEqual(cutting.gate(one, other, by), touching)

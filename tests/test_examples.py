@@ -50,7 +50,8 @@ class Examples(unittest.TestCase):
         told = {name: self.check(name) for name in sorted(os.listdir(FOLDER))}
         self.assertEqual(told, {"stage_01.txt": 4, "stage_02.txt": 5, "stage_03.txt": 6, "stage_04.txt": 6,
                                 "stage_05.txt": 7, "stage_06.txt": 5, "stage_07.txt": 5, "stage_08.txt": 6,
-                                "stage_09.txt": 7, "stage_10.txt": 5, "stage_11.txt": 6, "stage_12.txt": 4})
+                                "stage_09.txt": 7, "stage_10.txt": 5, "stage_11.txt": 6, "stage_12.txt": 4,
+                                "stage_13.txt": 3, "stage_14.txt": 6})
 
 
 if __name__ == "__main__":

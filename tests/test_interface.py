@@ -74,6 +74,19 @@ TOLD = {
         "new_board(room); is_deed(board, value); done(board, deed); boards(board); undone(board); redone(board); "
         "dark_now(board); all_served(board); further(board); how_many_further(board); idle(board); "
         "openable(board); wallable(board); change_by(board, deed)"),
+    "nodetour.surveys": (
+        "survey(rooms); numbers_of(rooms); ranked(rooms); report(room); judge_report(room, value); "
+        "put_together(one, other); like_rooms(room); compared(one, other); seen_shares(room, stalls); "
+        "most_serving(room); hooks(k)"),
+    "nodetour.deeds": "deed_text(deed); read_deed(text); log_text(deeds); read_log(text)",
+    "nodetour.house": "House(room)",
+    "nodetour.desk": "Desk(room)",
+}
+METHODS = {
+    "nodetour.house.House": (
+        "board(); do(deed); undo(); redo(); deeds(); twin(); serve(); thin(); room(); stalls(); dark(); served(); "
+        "missing(); spare(); answer()"),
+    "nodetour.desk.Desk": "house(); say(line)",
 }
 
 
@@ -95,6 +108,18 @@ class Interface(unittest.TestCase):
                 named = getattr(module, name)
                 self.assertEqual(named.__module__, path, name)
                 self.assertEqual(arguments(named), rest.split(", ") if rest else [], name)
+
+    def test_methods_are_defined_in_the_class_itself(self):
+        for path, told in METHODS.items():
+            place, name = path.rsplit(".", 1)
+            named = vars(getattr(importlib.import_module(place), name))
+            for entry in told.split("; "):
+                method, rest = entry[:-1].split("(")
+                self.assertTrue(inspect.isfunction(named[method]), method)
+                self.assertEqual(arguments(named[method])[1:], rest.split(", ") if rest else [], method)
+
+    def test_each_file_of_the_document_is_told(self):
+        self.assertEqual(len(TOLD), 18)
 
 
 if __name__ == "__main__":

@@ -4,7 +4,10 @@ import random
 import time
 import unittest
 
-from nodetour import choices, cutting, kept, shapes, stalls
+from nodetour import choices, cutting, deeds, kept, shapes, stalls, surveys
+from nodetour.desk import Desk
+from nodetour.errors import BadText
+from nodetour.house import House
 from nodetour.rooms import is_room
 from tests.drawn import drawn_room, some_of
 from tests.test_bounds import SOON, rooms_of
@@ -94,6 +97,50 @@ class Bounds(unittest.TestCase):
             self.assertIsInstance(kept.idle(board), tuple)
             self.assertIn(kept.change_by(board, ("take", room[5])), (0, 1))
             self.assertLessEqual(kept.how_many_further(board), stalls.fewest(room, room))
+
+    def test_surveys_of_six_rooms_of_forty_cells(self):
+        told = (rooms_of(40, 10) + [surveys.hooks(4)])[:6]
+        numbers = surveys.numbers_of(told)
+        self.assertEqual([number for _, number, _ in surveys.survey(told)], numbers)
+        self.assertEqual(len(surveys.ranked(told)), 6)
+        for one, other in zip(told, told[1:]):
+            self.assertIsNone(surveys.judge_report(one, surveys.report(one)))
+            both = surveys.put_together(one, other)
+            self.assertLessEqual(stalls.fewest(both, both), stalls.fewest(one, one) + stalls.fewest(other, other))
+            self.assertIn(surveys.compared(one, other), (-1, 0, 1))
+            self.assertEqual(len(surveys.like_rooms(one)), 3)
+            most = surveys.most_serving(one)
+            self.assertEqual(len({many for _, many in surveys.seen_shares(one, list(most))}), 1)
+
+    def test_texts_of_eight_thousand_signs(self):
+        big = 10 ** 60 - 1
+        log = (("take", (-big, -big)), ("open", (big, big))) * 30 + (("set", (1, 1)),) * 40
+        text = deeds.log_text(log)
+        self.assertTrue(7900 < len(text) < 8300)
+        self.assertEqual(deeds.read_log(text), log)
+        for bad in (text + "\n", text[:-1] + "x", "set 1," + "1" * 7990, "set " * 2000, "\n" * 8000):
+            for read in (deeds.read_log, deeds.read_deed):
+                with self.assertRaises(BadText):
+                    read(bad)
+            self.assertEqual(Desk(((0, 0),)).say(bad), "what")
+
+    def test_houses_and_desks_of_forty_cells(self):
+        for room in rooms_of(40, 10):
+            desk = Desk(room)
+            house = desk.house()
+            for k, cell in enumerate(room[:10]):
+                self.assertEqual(desk.say(f"set {cell[0]},{cell[1]}"), str(k + 1))
+            for line in ("room", "plan", "stalls", "dark", "spare", "log", "served", "missing", "answer"):
+                self.assertGreater(len(desk.say(line)), 0)
+            many = int(desk.say("missing"))
+            self.assertEqual([desk.say("serve"), desk.say("served"), desk.say("dark")], [str(many), "yes", "-"])
+            self.assertEqual([int(desk.say("thin")) > 0, desk.say("spare"), desk.say("served")], [True, "-", "yes"])
+            twin = house.twin()
+            done = len(house.deeds())
+            self.assertEqual([twin.undo() for _ in range(done)], list(reversed(range(done))))
+            self.assertEqual([twin.redo() for _ in range(done)], list(range(1, done + 1)))
+            self.assertEqual(twin.board(), house.board())
+            self.assertIsInstance(House(room).answer(), tuple)
 
 
 if __name__ == "__main__":
